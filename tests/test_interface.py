@@ -1,0 +1,85 @@
+"""[1], [2] and the interface: names, where they are defined, arguments, and results that are alike."""
+
+import importlib
+import inspect
+import unittest
+
+from elderlink import errors, house, texts
+from elderlink.house import Asker, Line
+from tests.samples import repr_of, trio
+from tests.test_errors import WITH_FIELD, WITHOUT_FIELD
+
+FUNCTIONS = {
+    "elderlink.house": {
+        "total": ["stock"], "held": ["stock", "kinds"], "added": ["one", "other"], "taken": ["one", "other"],
+        "fitting": ["line", "names"], "wanted": ["line", "names"], "folded": ["line", "stock"],
+        "renamed": ["thing", "names"], "recalled": ["line", "names"],
+    },
+    "elderlink.texts": {
+        "asker_text": ["asker"], "line_text": ["line"], "stock_text": ["stock"], "deal_text": ["deal"],
+        "read_asker": ["text"], "read_line": ["text"], "read_stock": ["text"], "read_deal": ["text"],
+    },
+}
+METHODS = {
+    "askers": [], "names": [], "__len__": [], "kinds": [], "asker": ["name"], "place": ["name"], "without": ["name"],
+    "put_in": ["asker", "place"], "moved": ["name", "place"], "changed": ["asker"], "ordered": ["names"],
+    "__init__": ["askers"], "__eq__": ["other"],
+}
+
+
+class Interface(unittest.TestCase):
+    def test_functions(self):
+        for module, functions in FUNCTIONS.items():
+            for name, parameters in functions.items():
+                with self.subTest(module=module, name=name):
+                    function = getattr(importlib.import_module(module), name)
+                    self.assertEqual(function.__module__, module)
+                    self.assertEqual(list(inspect.signature(function).parameters), parameters)
+
+    def test_methods_stand_in_the_class_itself(self):
+        self.assertEqual((Asker.__module__, Line.__module__), ("elderlink.house", "elderlink.house"))
+        for name, parameters in METHODS.items():
+            with self.subTest(name=name):
+                self.assertEqual(list(inspect.signature(vars(Line)[name]).parameters), ["self"] + parameters)
+        self.assertEqual(list(inspect.signature(Asker).parameters), ["name", "fits", "most"])
+        self.assertIn("__eq__", vars(Asker))
+        for name in ("name", "fits", "most"):
+            self.assertIn(name, vars(Asker))
+
+    def test_errors_stand_in_their_module(self):
+        for name in WITH_FIELD + WITHOUT_FIELD + ["ElderError"]:
+            self.assertEqual(getattr(errors, name).__module__, "elderlink.errors")
+            self.assertEqual(list(inspect.signature(getattr(errors, name).__init__).parameters)[1:2] == ["value"],
+                             name in WITH_FIELD)
+
+    def test_equal_calls_tell_the_same_anew(self):
+        line, stock, lot = trio(), {"b": 1, "a": 2}, ["cat", "ann"]
+        calls = [
+            line.askers, line.names, line.kinds, lambda: line.without("ann"), lambda: line.ordered(["cat", "bob", "ann"]),
+            lambda: house.added(stock, stock), lambda: house.taken(stock, {"a": 1}), lambda: house.fitting(line, lot),
+            lambda: house.folded(line, stock), lambda: house.renamed(stock, {"a": "b", "b": "a"}),
+            lambda: house.renamed(line, {"a": "b", "b": "a"}), lambda: house.recalled(line, {"ann": "bob", "bob": "ann"}),
+            lambda: texts.read_stock("a 1, b 2"), lambda: texts.read_deal("bob 1, ann 2"), lambda: line.asker("ann").fits,
+            lambda: texts.read_line("bob 1: a\nann 1: b"),
+        ]
+        for call in calls:
+            first = call()
+            told = repr_of(first)
+            self.assertIsNot(call(), first)
+            if isinstance(first, tuple):
+                first = first[1]
+            if isinstance(first, (list, dict)):
+                first.clear()
+            self.assertEqual(repr_of(call()), told)
+        self.assertEqual(repr_of([line, stock, lot]), repr_of([trio(), {"b": 1, "a": 2}, ["cat", "ann"]]))
+
+    def test_stocks_that_tell_the_same_mean_the_same(self):
+        line = trio()
+        for one, other in (({"a": 2}, {"a": 2, "b": 0}), ({}, {"z": 0}), ({"a": 1, "b": 2}, {"c": 0, "b": 2, "a": 1})):
+            for function in (
+                house.total, texts.stock_text, lambda stock: house.held(stock, ["a", "b", "z"]),
+                lambda stock: house.added(stock, {"b": 1}), lambda stock: house.taken({"a": 2, "b": 2}, stock),
+                lambda stock: house.taken(stock, {}), lambda stock: house.folded(line, stock),
+                lambda stock: house.renamed(stock, {"a": "b", "b": "a"}),
+            ):
+                self.assertEqual(function(one), function(other))
