@@ -4,7 +4,7 @@ import importlib
 import inspect
 import unittest
 
-from elderlink import errors, house, texts
+from elderlink import costs, deals, errors, house, orders, papers, texts
 from elderlink.house import Asker, Line
 from tests.samples import repr_of, trio
 from tests.test_errors import WITH_FIELD, WITHOUT_FIELD
@@ -18,6 +18,29 @@ FUNCTIONS = {
     "elderlink.texts": {
         "asker_text": ["asker"], "line_text": ["line"], "stock_text": ["stock"], "deal_text": ["deal"],
         "read_asker": ["text"], "read_line": ["text"], "read_stock": ["text"], "read_deal": ["text"],
+    },
+    "elderlink.deals": {
+        "together": ["line", "names", "stock"], "due": ["line", "name", "elders", "stock"], "deal": ["line", "stock"],
+        "spread": ["line", "stock", "value"], "check_spread": ["line", "stock", "value", "found"],
+        "left": ["line", "stock", "value"],
+    },
+    "elderlink.papers": {
+        "shortage": ["line", "stock", "name"], "check_shortage": ["line", "stock", "name", "value"],
+        "papers": ["line", "stock"], "check_papers": ["line", "stock", "value"], "harmed": ["one", "other", "stock"],
+    },
+    "elderlink.orders": {
+        "linked": ["line", "name", "near"], "group": ["line", "name"], "chain": ["line", "name", "elder"],
+        "parent": ["line", "name"], "forest": ["line"], "alike": ["one", "other"], "parting": ["one", "other"],
+        "check_parting": ["one", "other", "value"], "normal": ["line"], "count_alike": ["line"],
+        "positions": ["line", "name"], "exchanges": ["one", "other"], "touched": ["line", "name"],
+        "count_unlike": ["line"], "unlike_lines": ["line"],
+    },
+    "elderlink.costs": {
+        "cost": ["line", "lot", "stretch", "stock"], "greatest_cost": ["line", "lot", "stretch"],
+        "worst_stock": ["line", "lot", "stretch"], "barrier": ["line", "lot", "stretch"],
+        "check_barrier": ["line", "lot", "stretch", "value"], "whom": ["line", "name"],
+        "newcomer": ["line", "asker", "at"], "eased": ["line", "lot", "stretch", "bound"],
+        "first_cost": ["line", "name", "other"], "first_stock": ["line", "name", "other"],
     },
 }
 METHODS = {
@@ -61,13 +84,22 @@ class Interface(unittest.TestCase):
             lambda: house.renamed(line, {"a": "b", "b": "a"}), lambda: house.recalled(line, {"ann": "bob", "bob": "ann"}),
             lambda: texts.read_stock("a 1, b 2"), lambda: texts.read_deal("bob 1, ann 2"), lambda: line.asker("ann").fits,
             lambda: texts.read_line("bob 1: a\nann 1: b"),
+            lambda: deals.deal(line, stock), lambda: deals.left(line, stock, [("ann", 1), ("bob", 0), ("cat", 0)]),
+            lambda: deals.spread(line, stock, deals.deal(line, stock)), lambda: papers.shortage(line, stock, "cat"),
+            lambda: papers.papers(line, stock), lambda: papers.harmed(line.without("ann"), line, {"a": 2}),
+            lambda: orders.group(line, "cat"), lambda: orders.chain(line, "cat", "bob"), lambda: orders.forest(line),
+            lambda: orders.parting(line, line.moved("cat", 0)), lambda: orders.normal(line).names(),
+            lambda: orders.exchanges(line, line), lambda: orders.touched(line, "ann"), lambda: orders.unlike_lines(line),
+            lambda: costs.worst_stock(line, ["ann"], ["cat"]), lambda: costs.barrier(line, ["ann"], ["cat"]),
+            lambda: costs.whom(line, "ann"), lambda: costs.newcomer(line, Asker("dan", ["a"], 2), 0),
+            lambda: costs.eased(line, ["ann"], ["cat"], 0), lambda: costs.first_stock(line, "ann", "cat"),
         ]
         for call in calls:
             first = call()
             told = repr_of(first)
             self.assertIsNot(call(), first)
             if isinstance(first, tuple):
-                first = first[1]
+                first = [part for part in first if isinstance(part, (list, dict))][0]
             if isinstance(first, (list, dict)):
                 first.clear()
             self.assertEqual(repr_of(call()), told)
@@ -80,6 +112,14 @@ class Interface(unittest.TestCase):
                 house.total, texts.stock_text, lambda stock: house.held(stock, ["a", "b", "z"]),
                 lambda stock: house.added(stock, {"b": 1}), lambda stock: house.taken({"a": 2, "b": 2}, stock),
                 lambda stock: house.taken(stock, {}), lambda stock: house.folded(line, stock),
-                lambda stock: house.renamed(stock, {"a": "b", "b": "a"}),
+                lambda stock: house.renamed(stock, {"a": "b", "b": "a"}), lambda stock: deals.deal(line, stock),
+                lambda stock: deals.together(line, ["ann", "cat"], stock), lambda stock: papers.papers(line, stock),
+                lambda stock: deals.due(line, "cat", ["bob"], stock), lambda stock: papers.shortage(line, stock, "cat"),
+                lambda stock: deals.spread(line, stock, deals.deal(line, stock)),
+                lambda stock: deals.left(line, stock, deals.deal(line, stock)),
+                lambda stock: papers.harmed(line, line.moved("cat", 0), stock),
+                lambda stock: costs.cost(line, ["ann"], ["bob", "cat"], stock),
+                lambda stock: papers.check_papers(line, stock, papers.papers(line, one)),
+                lambda stock: orders.check_parting(line, line.moved("cat", 0), (stock, "cat")),
             ):
                 self.assertEqual(function(one), function(other))

@@ -116,3 +116,45 @@ class Language(unittest.TestCase):
         for path, node in nodes():
             for name in names_given(node) + ([node.attr] if isinstance(node, ast.Attribute) else []):
                 self.assertIsNone(WORDS.fullmatch(name), f"{path}: {name}")
+
+    def test_one_meaning_for_each_name(self):
+        for path, tree in trees():
+            given = [alias.name for node in tree.body if isinstance(node, ast.ImportFrom) for alias in node.names]
+            given += [name for node in tree.body for name in names_given(node)]
+            given += [each.id for node in tree.body if isinstance(node, ast.Assign) for each in node.targets]
+            self.assertEqual(len(given), len(set(given)), path)
+            for part in tree.body:
+                if isinstance(part, (ast.FunctionDef, ast.ClassDef)):
+                    for node in ast.walk(part):
+                        if isinstance(node, ast.arg) or isinstance(node, ast.Name) and isinstance(node.ctx, ast.Store):
+                            self.assertNotIn(names_given(node)[0], given, f"{path}:{node.lineno}")
+
+    def test_imports_are_used_and_lead_in_no_circle(self):
+        ways = {}
+        for path, tree in trees():
+            used = {node.id for node in ast.walk(tree) if isinstance(node, ast.Name)}
+            for node in tree.body:
+                if isinstance(node, ast.ImportFrom):
+                    ways.setdefault(path.stem, set()).add(node.module.split(".")[-1])
+                    for alias in node.names:
+                        self.assertIn(alias.name, used, path)
+        done = set()
+        while any(path.stem not in done for path in FILES):
+            free = [path.stem for path in FILES if path.stem not in done and ways.get(path.stem, set()) - set(LIBRARY) <= done]
+            self.assertNotEqual(free, [])
+            done.update(free)
+
+    def test_what_is_passed_over_is_not_read(self):
+        for path, node in nodes():
+            if isinstance(node, ast.Name) and node.id == "_":
+                self.assertIsInstance(node.ctx, ast.Store, f"{path}:{node.lineno}")
+
+    def test_loops_do_not_change_what_they_go_over(self):
+        for path, node in nodes():
+            if isinstance(node, ast.For):
+                gone = {each.id for each in ast.walk(node.iter) if isinstance(each, ast.Name)}
+                for each in [inner for row in node.body for inner in ast.walk(row)]:
+                    if isinstance(each, ast.Call) and isinstance(each.func, ast.Attribute):
+                        if each.func.attr in ("append", "pop", "insert", "extend", "update", "setdefault", "clear", "remove"):
+                            if isinstance(each.func.value, ast.Name):
+                                self.assertNotIn(each.func.value.id, gone, f"{path}:{each.lineno}")
