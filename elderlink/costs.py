@@ -1,7 +1,7 @@
 """What some askers can cost those behind them, and who stands between them."""
 
 from elderlink.checks import are_names, is_count
-from elderlink.deals import END, START, dealt, push, reach, widen
+from elderlink.deals import END, START, dealt, lots_of, push, reach, widen
 from elderlink.errors import InvalidCount, InvalidNames, UnknownName
 from elderlink.house import need_line, need_members, need_stock, total
 from elderlink.orders import full_stock, row_stock, shortest_row
@@ -98,7 +98,7 @@ def first_stock(line, name, other):
     elders = [asker for asker in askers if asker.name not in (name, other)]
     least = None
     found = None
-    for kinds in _lots(line.kinds()):
+    for kinds in lots_of(line.kinds())[1:]:
         mosts = sum([elder.most for elder in elders if any([kind in kinds for kind in elder.fits])])
         if least is None or mosts < least:
             row = shortest_row(askers, name, other, kinds)
@@ -175,11 +175,3 @@ def _barring(line, lot, stretch):
 
 def _most(askers):
     return sum([asker.most for asker in askers])
-
-
-def _lots(kinds):
-    """All lots of one or more of the kinds."""
-    found = [[]]
-    for kind in kinds:
-        found = found + [[*lot, kind] for lot in found]
-    return found[1:]

@@ -2,7 +2,7 @@
 
 from elderlink.checks import are_pairs, is_name, is_whole
 from elderlink.errors import InvalidDeal, InvalidNames
-from elderlink.house import need_line, need_members, need_stock, without_noughts
+from elderlink.house import Asker, Line, need_line, need_members, need_stock, without_noughts
 
 START = "start"
 END = "end"
@@ -73,14 +73,29 @@ def left(line, stock, value):
     return without_noughts({kind: stock[kind] - used[kind] for kind in stock})
 
 
+def given_out(line, stock):
+    """The deal, and the line and the stock that are left when it has been given out."""
+    counts = deal(line, stock)
+    askers = []
+    for asker, (_, count) in zip(line.askers(), counts):
+        if count < asker.most:
+            askers.append(Asker(asker.name, asker.fits, asker.most - count))
+    return (counts, Line(askers), left(line, stock, counts))
+
+
 def need_counts(line, stock, value):
     """Raise an error unless these are a line, a stock, and a list of one count for each asker of the line."""
     need_line(line)
     need_stock(stock)
+    if not are_counts(line, value):
+        raise InvalidDeal(value)
+
+
+def are_counts(line, value):
+    """Whether an object is a list of one count for each asker of a line, none more than its most."""
     if not are_pairs(value) or [name for name, _ in value] != line.names():
-        raise InvalidDeal(value)
-    if any([count > asker.most for asker, (_, count) in zip(line.askers(), value)]):
-        raise InvalidDeal(value)
+        return False
+    return all([count <= asker.most for asker, (_, count) in zip(line.askers(), value)])
 
 
 def dealt(askers, stock):
@@ -92,6 +107,46 @@ def dealt(askers, stock):
 def takers_of(askers):
     """Each asker as one who takes bags: its name, the kinds that fit it, and its most."""
     return [(asker.name, asker.fits, asker.most) for asker in askers]
+
+
+def lot_sums(askers, stock):
+    """The most bags that each lot of a list of askers can get together.
+
+    A lot is told by the sum of the bits of its askers, 1 for the first one, 2 for the next one, then 4 and so on.
+    """
+    bits = bits_of(askers)
+    whom = {}
+    for bit, asker in zip(bits, askers):
+        for kind in asker.fits:
+            whom[kind] = whom.get(kind, 0) + bit
+    sums = []
+    for lot in range(1 + sum(bits)):
+        sums.append(sum([stock.get(kind, 0) for kind in whom if whom[kind] & lot > 0]))
+    # No lot gets more than all bags that fit some of it and the mosts of the others of it, whichever these are; the
+    # least of these sums can be got.
+    for bit, asker in zip(bits, askers):
+        for lot in range(1 + sum(bits)):
+            if lot & bit > 0:
+                sums[lot] = min(sums[lot], sums[lot - bit] + asker.most)
+    return sums
+
+
+def bits_of(askers):
+    """The bit of each asker of a list."""
+    bits = []
+    bit = 1
+    for _ in askers:
+        bits.append(bit)
+        bit += bit
+    return bits
+
+
+def lots_of(things):
+    """All lots of a list of things, the first of them the empty one."""
+    found = [[]]
+    for thing in things:
+        found = found + [[*lot, thing] for lot in found]
+    return found
 
 
 def poured(takers, stores):
@@ -123,15 +178,20 @@ def widen(room, one, other, many):
 
 
 def push(room, start, end):
-    """Move as much as can be from one place to another one: what has gone a way can come back on it."""
+    """Move as much as can be from one place to another one."""
     came = reach(room, start)
     while end in came:
-        steps = _steps(came, end)
-        many = min([room[one][other] for one, other in steps])
-        for one, other in steps:
-            room[one][other] -= many
-            room[other][one] += many
+        move(room, came, end)
         came = reach(room, start)
+
+
+def move(room, came, end):
+    """Move as much as can be on a way to a place: what has gone a way can come back on it."""
+    steps = _steps(came, end)
+    many = min([room[one][other] for one, other in steps])
+    for one, other in steps:
+        room[one][other] -= many
+        room[other][one] += many
 
 
 def reach(room, start):

@@ -1,7 +1,7 @@
 """Askers, lines of them by rank, and stocks of bags."""
 
 from elderlink.checks import are_names, are_unlike, is_count, is_exchange, is_name, is_stock, is_whole
-from elderlink.errors import InvalidAsker, InvalidCount, InvalidLine, InvalidNames, InvalidStock
+from elderlink.errors import InvalidAsker, InvalidCount, InvalidKind, InvalidLine, InvalidNames, InvalidStock
 from elderlink.errors import TakenName, UnknownName
 
 
@@ -198,6 +198,12 @@ def need_stock(value):
     """Raise InvalidStock for an object that is no stock."""
     if not is_stock(value):
         raise InvalidStock(value)
+
+
+def need_kind(value):
+    """Raise InvalidKind for an object that is no kind."""
+    if not is_name(value):
+        raise InvalidKind(value)
 
 
 def need_members(line, names):

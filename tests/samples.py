@@ -3,8 +3,10 @@
 import copy
 import unittest
 
+from elderlink.days import DayLine
 from elderlink.errors import ElderError, InvalidAsker
 from elderlink.house import Asker, Line
+from elderlink.shares import Ranks
 
 GOOD_NAMES = ["a", "z", "ann", "none", "nobody", "abcdefghij"]
 BAD_NAMES = [
@@ -48,7 +50,7 @@ def strange():
         -1, BIG, [None], [[]], [True], ["a", "a"], ["a", 1], ("ann", 1), [("ann", 1)], [["ann", 1]],
         {"a": True}, {"a": -1}, {"a": None}, {"A": 1}, {"": 1}, {1: 1}, {None: 1}, {True: 1}, {("a",): 1}, {"a": "a"},
         {"a": {}}, {"a": 1, "b": "c"}, ann(), trio(), Line([]), [ann()], (ann(),), [trio()], {"ann": ann()},
-        InvalidAsker("a"), nested(40),
+        InvalidAsker("a"), nested(40), Ranks([[ann()], [bob()]]), DayLine(Line([bob()]), {"a": 1}, {"bob": 2}),
     ]
 
 
@@ -85,6 +87,39 @@ def is_line(value):
     return type(value) is Line
 
 
+def is_ranks(value):
+    return type(value) is Ranks
+
+
+def is_day_line(value):
+    return type(value) is DayLine
+
+
+def spoiled(value):
+    """A value with a strange object in each of its places in turn, however deep."""
+    yield from strange()
+    if type(value) in (list, tuple):
+        for at, item in enumerate(value):
+            for other in spoiled(item):
+                yield type(value)([*value[:at], other, *value[at + 1:]])
+    if type(value) is dict:
+        for key in value:
+            rest = {other: value[other] for other in value if other != key}
+            for other in spoiled(value[key]):
+                yield {**rest, key: other}
+            for other in spoiled(key):
+                if is_key(other):
+                    yield {**rest, other: value[key]}
+
+
+def is_key(value):
+    try:
+        hash(value)
+    except TypeError:
+        return False
+    return True
+
+
 class ElderCase(unittest.TestCase):
     def refused(self, error, value, action, *told, **named):
         """The call raises just this error with this very value, and changes none of its arguments."""
@@ -102,7 +137,7 @@ def repr_of(value):
         return f"Asker{(value.name, value.fits, value.most)!r}"
     if is_line(value):
         return f"Line[{', '.join(repr_of(asker) for asker in value.askers())}]"
-    if isinstance(value, ElderError):
+    if isinstance(value, (ElderError, Ranks, DayLine)):
         return f"{type(value).__name__}({repr_of(vars(value))})"
     if isinstance(value, (list, tuple)):
         return f"{type(value).__name__}[{', '.join(repr_of(item) for item in value)}]"

@@ -5,7 +5,9 @@ import inspect
 import unittest
 
 from elderlink import costs, deals, errors, house, orders, papers, texts
+from elderlink.days import DayLine
 from elderlink.house import Asker, Line
+from elderlink.shares import Ranks
 from tests.samples import repr_of, trio
 from tests.test_errors import WITH_FIELD, WITHOUT_FIELD
 
@@ -42,12 +44,47 @@ FUNCTIONS = {
         "newcomer": ["line", "asker", "at"], "eased": ["line", "lot", "stretch", "bound"],
         "first_cost": ["line", "name", "other"], "first_stock": ["line", "name", "other"],
     },
+    "elderlink.gains": {
+        "gainer": ["line", "stock", "kind"], "loser": ["line", "stock", "kind"], "gain_way": ["line", "stock", "kind"],
+        "check_way": ["line", "stock", "kind", "value"], "can_help": ["line", "kind"],
+        "help_stock": ["line", "kind", "name"], "between": ["line", "low", "high"],
+        "least_stock": ["line", "name", "wish"], "least_help": ["line", "stock", "name", "wish"],
+        "spare": ["line", "stock"], "waits_for": ["line", "name"], "same_kinds": ["line", "one", "other"],
+        "payer": ["line", "stock", "name"],
+    },
+    "elderlink.shares": {
+        "class_sums": ["ranks", "stock"], "fair": ["ranks", "stock"], "blocks": ["ranks", "stock"],
+        "unfair": ["ranks", "stock", "shares"], "check_unfair": ["ranks", "stock", "shares", "value"],
+        "even": ["ranks", "stock"], "even_rows": ["ranks", "stock"], "check_even": ["ranks", "stock", "value"],
+        "evener": ["ranks", "stock", "told"], "span": ["ranks", "stock"], "parted": ["ranks"],
+        "alike_ranks": ["one", "other"], "parting_ranks": ["one", "other"],
+        "check_parting_ranks": ["one", "other", "value"], "harmed_shares": ["one", "other", "stock"],
+    },
+    "elderlink.claims": {
+        "order_for": ["line", "book"], "stuck": ["line", "book"], "check_stuck": ["line", "book", "value"],
+        "count_orders": ["line", "book"], "must": ["line", "book"], "nearest": ["line", "book"],
+        "first_wronged": ["line", "book"], "lesson": ["line"], "unlike_deals": ["line", "stock"],
+        "count_deals": ["line", "stock"], "bounds": ["line", "stock"], "means": ["line", "stock"],
+    },
+    "elderlink.days": {
+        "cells": ["day_line"], "unrolled": ["day_line"], "day_order": ["day_line"],
+        "foreseen": ["day_line", "supplies"], "by_days": ["day_line", "supplies"],
+        "so_far": ["day_line", "supplies", "day"], "alike_days": ["day_line"], "later_matters": ["day_line"],
+        "check_later": ["day_line", "value"], "handed": ["day_line", "supplies"],
+        "handed_deal": ["day_line", "supplies"], "unused": ["day_line", "supplies"],
+        "foresight": ["day_line", "supplies"],
+    },
 }
 METHODS = {
-    "askers": [], "names": [], "__len__": [], "kinds": [], "asker": ["name"], "place": ["name"], "without": ["name"],
-    "put_in": ["asker", "place"], "moved": ["name", "place"], "changed": ["asker"], "ordered": ["names"],
-    "__init__": ["askers"], "__eq__": ["other"],
+    Line: {
+        "askers": [], "names": [], "__len__": [], "kinds": [], "asker": ["name"], "place": ["name"],
+        "without": ["name"], "put_in": ["asker", "place"], "moved": ["name", "place"], "changed": ["asker"],
+        "ordered": ["names"], "__init__": ["askers"], "__eq__": ["other"],
+    },
+    Ranks: {"classes": [], "line": [], "__len__": [], "__eq__": ["other"], "__init__": ["classes"]},
+    DayLine: {"line": [], "keeps": [], "days": [], "__eq__": ["other"], "__init__": ["line", "keeps", "days"]},
 }
+MODULES = {Asker: "elderlink.house", Line: "elderlink.house", Ranks: "elderlink.shares", DayLine: "elderlink.days"}
 
 
 class Interface(unittest.TestCase):
@@ -60,10 +97,12 @@ class Interface(unittest.TestCase):
                     self.assertEqual(list(inspect.signature(function).parameters), parameters)
 
     def test_methods_stand_in_the_class_itself(self):
-        self.assertEqual((Asker.__module__, Line.__module__), ("elderlink.house", "elderlink.house"))
-        for name, parameters in METHODS.items():
-            with self.subTest(name=name):
-                self.assertEqual(list(inspect.signature(vars(Line)[name]).parameters), ["self"] + parameters)
+        for made, module in MODULES.items():
+            self.assertEqual((made.__module__, getattr(importlib.import_module(module), made.__name__)), (module, made))
+        for made, methods in METHODS.items():
+            for name, parameters in methods.items():
+                with self.subTest(made=made, name=name):
+                    self.assertEqual(list(inspect.signature(vars(made)[name]).parameters), ["self"] + parameters)
         self.assertEqual(list(inspect.signature(Asker).parameters), ["name", "fits", "most"])
         self.assertIn("__eq__", vars(Asker))
         for name in ("name", "fits", "most"):

@@ -4,8 +4,8 @@ from elderlink import costs, deals, orders, papers
 from elderlink.errors import InvalidAsker, InvalidCount, InvalidDeal, InvalidLine, InvalidNames, InvalidStock
 from elderlink.errors import UnknownName
 from elderlink.house import Asker, Line
-from tests.samples import ElderCase, is_asker, is_line, is_right_count, is_right_names, is_right_stock, repr_of, strange
-from tests.samples import strange_but, trio
+from tests.refusing import RefusalCase
+from tests.samples import is_asker, is_line, is_right_count, is_right_names, is_right_stock, strange, trio
 from tests.ways import are_right_counts
 
 NAMES = ["ann", "bob", "cat"]
@@ -65,8 +65,6 @@ LOT = ("lot", ["ann"], InvalidNames, is_lot, [[], ["ann", "ann"], ["ann", "dan"]
 STRETCH = ("stretch", ["bob", "cat"], InvalidNames, is_stretch_behind_ann, [
     [], ["ann"], ["cat", "bob"], ["bob", "bob"], ["bob", "dan"], ("bob",), "bob", ["ann", "bob"], ["cat", "ann"],
 ])
-ANYTHING = [None, 0, {}, "ann", [["ann"]]]
-
 CALLS = [
     (deals.together, [LINE, NAMED, STOCK]),
     (deals.due, [LINE, CAT, ("elders", ["bob"], InvalidNames, are_elders_of_cat, [["cat"], ["ann", "cat"], ["dan"]]), STOCK]),
@@ -108,60 +106,8 @@ CALLS = [
 ]
 
 
-def name_of(part):
-    return part if isinstance(part, str) else part[0]
-
-
-def good_of(part):
-    return None if isinstance(part, str) else part[1]
-
-
-class Refusals(ElderCase):
-    def test_each_argument_wrong_in_turn(self):
-        for function, parts in CALLS:
-            goods = [good_of(part) for part in parts]
-            for at, part in enumerate(parts):
-                if isinstance(part, str):
-                    continue
-                _, _, error, right, more = part
-                for value in strange_but(right) + more:
-                    with self.subTest(function=function.__name__, at=at, value=repr_of(value)):
-                        self.refused(error, value, function, *goods[:at], value, *goods[at + 1:])
-
-    def test_two_wrong_at_once(self):
-        for function, parts in CALLS:
-            goods = [good_of(part) for part in parts]
-            for at, part in enumerate(parts[:-1]):
-                if isinstance(part, str):
-                    continue
-                _, _, error, right, more = part
-                for value in strange_but(right)[::7] + more[:2]:
-                    for wrong in ANYTHING:
-                        rest = [wrong] * (len(parts) - at - 1)
-                        self.refused(error, value, function, *goods[:at], value, *rest)
-
-    def test_arguments_by_name(self):
-        for function, parts in CALLS:
-            goods = {name_of(part): good_of(part) for part in parts}
-            backwards = dict(reversed(list(goods.items())))
-            self.assertEqual(repr_of(function(**backwards)), repr_of(function(*goods.values())))
-            for part in parts:
-                if not isinstance(part, str):
-                    self.refused(part[2], None, lambda: function(**{**backwards, part[0]: None}))
-
-    def test_any_object_in_the_last_place_of_a_check(self):
-        for function, parts in CALLS:
-            if isinstance(parts[-1], str):
-                goods = [good_of(part) for part in parts[:-1]]
-                kept = repr_of(goods)
-                for value in strange():
-                    told = repr_of(value)
-                    self.assertIs(type(function(*goods, value)), bool)
-                    self.assertIs(type(function(*goods, [value])), bool)
-                    self.assertIs(type(function(*goods, (value, value, value))), bool)
-                    self.assertIs(type(function(*goods, (value, value))), bool)
-                    self.assertEqual(repr_of(value), told)
-                self.assertEqual(repr_of(goods), kept)
+class Refusals(RefusalCase):
+    calls = CALLS
 
     def test_sides_of_other_lines(self):
         line = Line([Asker(name, ["a"], 1) for name in ("d", "c", "b", "a")])
