@@ -120,7 +120,8 @@ def unlike_deals(line, stock):
         for at, bit in enumerate(bits):
             if lot & bit == 0:
                 for counts in list(found[lot]):
-                    found[lot + bit][(*counts[:at], sums[lot + bit] - most, *counts[at + 1:])] = True
+                    more = (*counts[:at], sums[lot + bit] - most, *counts[at + 1:])
+                    found[lot + bit][more] = True
     return sorted([list(counts) for counts in found[-1]])
 
 

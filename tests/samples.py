@@ -6,6 +6,7 @@ import unittest
 from elderlink.days import DayLine
 from elderlink.errors import ElderError, InvalidAsker
 from elderlink.house import Asker, Line
+from elderlink.live import House, Trial
 from elderlink.shares import Ranks
 
 GOOD_NAMES = ["a", "z", "ann", "none", "nobody", "abcdefghij"]
@@ -51,6 +52,7 @@ def strange():
         {"a": True}, {"a": -1}, {"a": None}, {"A": 1}, {"": 1}, {1: 1}, {None: 1}, {True: 1}, {("a",): 1}, {"a": "a"},
         {"a": {}}, {"a": 1, "b": "c"}, ann(), trio(), Line([]), [ann()], (ann(),), [trio()], {"ann": ann()},
         InvalidAsker("a"), nested(40), Ranks([[ann()], [bob()]]), DayLine(Line([bob()]), {"a": 1}, {"bob": 2}),
+        House(trio(), {"a": 1}),
     ]
 
 
@@ -137,7 +139,7 @@ def repr_of(value):
         return f"Asker{(value.name, value.fits, value.most)!r}"
     if is_line(value):
         return f"Line[{', '.join(repr_of(asker) for asker in value.askers())}]"
-    if isinstance(value, (ElderError, Ranks, DayLine)):
+    if isinstance(value, (ElderError, Ranks, DayLine, House, Trial)):
         return f"{type(value).__name__}({repr_of(vars(value))})"
     if isinstance(value, (list, tuple)):
         return f"{type(value).__name__}[{', '.join(repr_of(item) for item in value)}]"

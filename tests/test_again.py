@@ -2,7 +2,7 @@
 
 import unittest
 
-from elderlink import claims, days, gains, shares
+from elderlink import claims, days, early, gains, live, scripts, shares, worth
 from elderlink.house import Asker, Line
 from tests.samples import ann, bob, cat, repr_of, trio
 
@@ -43,7 +43,28 @@ def with_stock(stock):
         claims.unlike_deals(trio(), stock), claims.bounds(trio(), stock), claims.means(trio(), stock),
         days.foreseen(day_line(), supplies), days.by_days(day_line(), supplies), days.so_far(day_line(), supplies, 0),
         days.handed(day_line(), supplies), days.unused(day_line(), supplies), days.foresight(day_line(), supplies),
+        *[function(trio(), stock, worths()) for function in (
+            worth.best_worth, worth.best_spread, worth.prices, worth.least_prices, worth.greatest_prices, worth.best_of_deal,
+            worth.spread_of_deal, worth.rank_costs)],
+        worth.check_prices(trio(), stock, worths(), worth.prices(trio(), STOCKS[0], worths())),
+        early.in_steps(trio(), stock, {"ab": 1}), early.in_steps(trio(), {"ab": 1}, stock), early.winner(trio(), stock, "ann"),
+        early.check_early(trio(), ("bob", stock, {"ab": 1})), *of_houses(trio(), stock),
     ]
+
+
+def worths():
+    return {("ann", "a"): 3, ("ann", "ab"): -1, ("bob", "a"): 4, ("cat", "b"): 0, ("cat", "ab"): 7, ("cat", "c"): 2}
+
+
+def script():
+    return [("lose", "a", 1), ("order", ["cat", "bob", "ann"]), ("try", [("order", ["ann", "bob", "cat"]), ("deal",)]), ("short", "bob")]
+
+
+def of_houses(line, stock):
+    """What is told of a house of a line and a stock."""
+    house = live.House(line, stock)
+    return [house.stock(), house.deal(), scripts.play(house, script()), house.log(), house.bring("c", 2), house.give(),
+            house.given(), live.replayed(line, stock, house.log()).deal(), house.attempt(lambda same: same.give())]
 
 
 def without_stock():
@@ -52,7 +73,11 @@ def without_stock():
         ranks().classes(), ranks().line().names(), [each.classes() for each in [shares.parted(ranks())]],
         shares.parting_ranks(ranks(), turned()), claims.stuck(trio(), book()), claims.lesson(trio()),
         claims.first_wronged(trio(), book()), day_line().keeps(), day_line().days(), days.cells(day_line()),
-        days.unrolled(day_line()).names(), days.later_matters(day_line()),
+        days.unrolled(day_line()).names(), days.later_matters(day_line()), worth.by_asker(trio(), [3, 2, 1]),
+        early.early_pairs(trio()), early.early_matters(trio()), early.fit_harms(trio(), "ann", "b"),
+        early.fit_stock(trio(), "ann", "b", "cat"), early.gathered(trio()).names(),
+        scripts.read_script(scripts.script_text(script())), scripts.parting_stock(trio(), script(), []),
+        scripts.trimmed(trio(), script()), scripts.script_text(script()),
     ]
 
 

@@ -7,6 +7,7 @@ import unittest
 from elderlink import costs, deals, errors, house, orders, papers, texts
 from elderlink.days import DayLine
 from elderlink.house import Asker, Line
+from elderlink.live import House
 from elderlink.shares import Ranks
 from tests.samples import repr_of, trio
 from tests.test_errors import WITH_FIELD, WITHOUT_FIELD
@@ -74,6 +75,24 @@ FUNCTIONS = {
         "handed_deal": ["day_line", "supplies"], "unused": ["day_line", "supplies"],
         "foresight": ["day_line", "supplies"],
     },
+    "elderlink.worth": {
+        "best_worth": ["line", "stock", "worths"], "best_spread": ["line", "stock", "worths"],
+        "prices": ["line", "stock", "worths"], "check_prices": ["line", "stock", "worths", "value"],
+        "least_prices": ["line", "stock", "worths"], "greatest_prices": ["line", "stock", "worths"],
+        "best_of_deal": ["line", "stock", "worths"], "spread_of_deal": ["line", "stock", "worths"],
+        "rank_costs": ["line", "stock", "worths"], "by_asker": ["line", "numbers"],
+    },
+    "elderlink.early": {
+        "in_steps": ["line", "first", "later"], "early_pairs": ["line"], "early_matters": ["line"],
+        "check_early": ["line", "value"], "fit_harms": ["line", "name", "kind"],
+        "fit_stock": ["line", "name", "kind", "other"], "winner": ["line", "stock", "name"],
+        "merged": ["line", "name"], "gathered": ["line"],
+    },
+    "elderlink.live": {"replayed": ["line", "stock", "log"]},
+    "elderlink.scripts": {
+        "play": ["house", "script"], "script_text": ["script"], "read_script": ["text"], "said_text": ["said"],
+        "same_end": ["line", "one", "other"], "parting_stock": ["line", "one", "other"], "trimmed": ["line", "script"],
+    },
 }
 METHODS = {
     Line: {
@@ -83,8 +102,17 @@ METHODS = {
     },
     Ranks: {"classes": [], "line": [], "__len__": [], "__eq__": ["other"], "__init__": ["classes"]},
     DayLine: {"line": [], "keeps": [], "days": [], "__eq__": ["other"], "__init__": ["line", "keeps", "days"]},
+    House: {
+        "line": [], "stock": [], "deal": [], "__len__": [], "given": [], "bring": ["kind", "count"],
+        "lose": ["kind", "count"], "join": ["asker", "at"], "leave": ["name"], "move": ["name", "at"],
+        "order": ["names"], "give": [], "log": [], "undo": [], "redo": [], "trial": [], "attempt": ["action"],
+        "copy": [], "__init__": ["line", "stock"],
+    },
 }
-MODULES = {Asker: "elderlink.house", Line: "elderlink.house", Ranks: "elderlink.shares", DayLine: "elderlink.days"}
+MODULES = {
+    Asker: "elderlink.house", Line: "elderlink.house", Ranks: "elderlink.shares", DayLine: "elderlink.days",
+    House: "elderlink.live",
+}
 
 
 class Interface(unittest.TestCase):
@@ -107,6 +135,14 @@ class Interface(unittest.TestCase):
         self.assertIn("__eq__", vars(Asker))
         for name in ("name", "fits", "most"):
             self.assertIn(name, vars(Asker))
+
+    def test_left_out_arguments(self):
+        for made in MODULES:
+            for name, method in vars(made).items():
+                if inspect.isfunction(method):
+                    defaults = [each.default for each in inspect.signature(method).parameters.values()
+                                if each.default is not inspect.Parameter.empty]
+                    self.assertEqual(defaults, [None] if name == "join" else [])
 
     def test_errors_stand_in_their_module(self):
         for name in WITH_FIELD + WITHOUT_FIELD + ["ElderError"]:

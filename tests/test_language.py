@@ -23,6 +23,11 @@ WORDS = re.compile(
     r"typing|typing_extensions|enum|Enum|IntEnum|StrEnum|Flag|IntFlag|Generic|Protocol|ABC|ABCMeta|namedtuple"
     r"|NamedTuple|TypedDict|TYPE_CHECKING|abstractmethod|type"
 )
+METHODS = """
+append clear copy count endswith extend find get index insert isalnum isalpha isdigit islower isspace isupper items join
+keys ljust lower lstrip partition pop remove replace reverse rfind rjust rpartition rsplit rstrip setdefault split
+splitlines startswith strip update upper values zfill bit_length
+""".split()
 NAMES = "register mro elements open input law version_info with_traceback add_note id eval exec hash vars dir".split()
 
 
@@ -111,6 +116,36 @@ class Language(unittest.TestCase):
                 if node.func.id in ("any", "all", "min", "max", "sum", "sorted"):
                     for argument in node.args:
                         self.assertNotIsInstance(argument, ast.GeneratorExp, f"{path}:{node.lineno}")
+
+    def test_no_star_in_an_index(self):
+        for path, node in nodes():
+            if isinstance(node, ast.Subscript):
+                for part in ast.walk(node.slice):
+                    self.assertNotIsInstance(part, ast.Starred, f"{path}:{node.lineno}")
+
+    def test_what_stands_where_a_block_is_left(self):
+        for path, node in nodes():
+            if isinstance(node, ast.FunctionDef) and node.name == "__exit__":
+                self.assertEqual([arg.arg for arg in node.args.args], ["self", "kind", "value", "trace"])
+                for row in node.body:
+                    self.assertIsInstance(row, ast.Assign, f"{path}:{row.lineno}")
+                    self.assertIsInstance(row.targets[0], ast.Attribute, f"{path}:{row.lineno}")
+                    self.assertIsInstance(row.value, ast.Attribute, f"{path}:{row.lineno}")
+
+    def test_errors_that_are_caught(self):
+        own = self.defined_in("elderlink.errors")
+        for path, node in nodes():
+            if isinstance(node, ast.ExceptHandler):
+                self.assertIn(ast.unparse(node.type), own, f"{path}:{node.lineno}")
+                self.assertIsNone(node.name)
+
+    def test_methods_of_builtin_values(self):
+        methods = {node.name for _, made in nodes() if isinstance(made, ast.ClassDef)
+                   for node in made.body if isinstance(node, ast.FunctionDef)}
+        for path, node in nodes():
+            if isinstance(node, ast.Call) and isinstance(node.func, ast.Attribute):
+                self.assertIn(node.func.attr, methods | set(METHODS), f"{path}:{node.lineno}")
+                self.assertEqual(node.keywords, [], f"{path}:{node.lineno}")
 
     def test_words(self):
         for path, node in nodes():
