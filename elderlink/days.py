@@ -204,7 +204,7 @@ def _are_supplies(day_line, value):
 def _is_cell(keeps, value):
     if not isinstance(value, tuple) or len(value) != 2:
         return False
-    return is_name(value[0]) and value[0] in keeps and is_count(value[1])
+    return value[0] in keeps and is_count(value[1])
 
 
 def _cells_of(day_line, asker):

@@ -1,6 +1,6 @@
 """Who gains by a bag more and loses by a bag less, and how many bags it takes to help somebody."""
 
-from elderlink.checks import are_unlike, is_count, is_name
+from elderlink.checks import are_unlike, is_count
 from elderlink.deals import check_spread, count_of, deal, dealt, due, poured, spread
 from elderlink.errors import InvalidCount, InvalidStock
 from elderlink.house import Asker, added, need_kind, need_line, need_stock, taken
@@ -184,7 +184,7 @@ def _are_steps(line, value):
 
 
 def _is_step(line, value):
-    if not isinstance(value, tuple) or len(value) != 2 or not is_name(value[0]) or not is_name(value[1]):
+    if not isinstance(value, tuple) or len(value) != 2:
         return False
     return value[1] in line.names() and value[0] in line.asker(value[1]).fits
 

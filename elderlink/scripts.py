@@ -31,7 +31,7 @@ def read_script(text):
     if not isinstance(text, str):
         raise InvalidText(text)
     script = _script_of([] if text == "" else text.split("\n"))
-    # The rows are read without looking at each sign: so only what is written just so again is right.
+    # The rows are not read sign by sign: so only a text is right that is written just so again.
     if not _is_script(script) or "\n".join(_script_rows(script)) != text:
         raise InvalidText(text)
     return script
@@ -67,7 +67,8 @@ def trimmed(line, script):
         shorter = [*kept[:at], *kept[at + 1:]]
         if same_end(line, script, shorter):
             kept = shorter
-    return [_command_copied(command) for command in kept]
+    # A try changes nothing, so none of them is left.
+    return [copied(command) for command in kept]
 
 
 def _need_script(value):
@@ -86,7 +87,7 @@ def _is_script(value):
 
 
 def _is_command(value):
-    if not isinstance(value, tuple) or len(value) == 0 or not isinstance(value[0], str):
+    if not isinstance(value, tuple) or not 1 <= len(value) <= 3:
         return False
     word = value[0]
     if len(value) == 1:
@@ -95,8 +96,6 @@ def _is_command(value):
         if word in _NAMED:
             return is_name(value[1])
         return (word == "order" and are_names(value[1])) or (word == "try" and _is_script(value[1]))
-    if len(value) > 3:
-        return False
     if word == "join":
         return isinstance(value[1], Asker) and (value[2] is None or is_count(value[2]))
     return (word in _BAGS or word == "move") and is_name(value[1]) and is_count(value[2])
@@ -105,13 +104,6 @@ def _is_command(value):
 def _gives(script):
     """Whether a script gives out, perhaps within a try."""
     return any([command[0] == "give" or (command[0] == "try" and _gives(command[1])) for command in script])
-
-
-def _command_copied(command):
-    """A command with lists of its own."""
-    if command[0] == "try":
-        return ("try", [_command_copied(inner) for inner in command[1]])
-    return copied(command)
 
 
 def _played(house, script):
@@ -183,7 +175,7 @@ def _further_in(rows):
 
 
 def _script_of(rows):
-    """What the rows tell as a script, with None in the place of what is none."""
+    """What the rows tell as a script; a try without an end is passed over."""
     script = []
     inner = None
     for row in rows:
@@ -196,8 +188,6 @@ def _script_of(rows):
             inner = None
         else:
             inner.append(row[2:])
-    if inner is not None:
-        script.append(None)
     return script
 
 

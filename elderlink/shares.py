@@ -2,7 +2,7 @@
 
 from math import gcd, lcm
 
-from elderlink.checks import are_pairs, are_unlike, is_count, is_name, is_stock, is_whole
+from elderlink.checks import are_pairs, are_unlike, is_count, is_stock, is_whole
 from elderlink.deals import bits_of, lot_sums, lots_of
 from elderlink.errors import InvalidDeal, InvalidRanks, InvalidShares, Unlike
 from elderlink.house import Asker, Line, need_stock
@@ -221,7 +221,7 @@ def _are_classes(value):
 
 
 def _is_share(value):
-    if not isinstance(value, tuple) or len(value) != 2 or not is_name(value[0]):
+    if not isinstance(value, tuple) or len(value) != 2:
         return False
     part = value[1]
     if not isinstance(part, tuple) or len(part) != 2 or not is_count(part[0]) or not is_whole(part[1]):
@@ -260,8 +260,9 @@ def _class_blocks(ranks, sums, elders, bits):
         block = []
         for lot in lots_of(rest)[1:]:
             part = (sums[elders + sum(lot)] - sums[elders], len(lot))
-            # Two lots with the least part are together such a lot, too: so the longest one is the greatest one.
-            if least is None or _is_less(part, least) or (not _is_less(least, part) and len(lot) > len(block)):
+            # Two lots with the least part are together such a lot, too, which comes behind both: so the last one is
+            # the greatest one.
+            if least is None or not _is_less(least, part):
                 least = part
                 block = lot
         found.append((_names_of(ranks, sum(block)), fraction(least[0], least[1])))

@@ -85,6 +85,10 @@ class SameEnds(ElderCase):
             else:
                 self.assertEqual(sum(found.values()), sum(stock.values()))
                 self.assertNotEqual(end_of(PAIR, found, one), end_of(PAIR, found, other))
+        # Two bags of one kind part them, too, but one of the other kind is fewer, whichever kind comes first.
+        for one, other in (("a", "b"), ("b", "a")):
+            self.assertEqual(parting_stock(PAIR, [("lose", one, 2)], [("lose", other, 1)]), {other: 1})
+            self.assertEqual(parting_stock(PAIR, [("lose", other, 1)], [("lose", one, 2)]), {other: 1})
         both = [("leave", "bob"), ("lose", "a", 1), ("lose", "b", 1), ("undo",), ("undo",), ("undo",)]
         self.assertEqual(parting_stock(PAIR, both, [("leave", "bob"), ("undo",)]), None)
 

@@ -185,6 +185,20 @@ class Judged(ElderCase):
             for value in [found, None, ([], []), (deal(THREE, stock), []), *strange()]:
                 self.assertIs(check_way(THREE, stock, kind, value), False)
 
+    def test_kinds_that_do_not_fit(self):
+        entries, _ = gain_way(THREE, FEW, "o")
+        self.judged(THREE, FEW, "o", (entries, [("o", "cid")]))
+        self.assertIs(check_way(THREE, FEW, "o", (entries, [("o", "cid")])), False)
+        # bob has a bag of a, but no bag of o, which does not fit cid either.
+        for way in ([("o", "bob"), ("o", "cid")], [("o", "ann"), ("o", "cid")], [("o", "ann"), ("a", "cid")], [("a", "bob"), ("a", "cid")]):
+            self.judged(THREE, FEW, "o", (entries, way))
+            self.assertIs(check_way(THREE, FEW, "o", (entries, way)), False)
+        line, stock = line_of(["ab", "c", "bc"], [2, 1, 2]), {"a": 1, "b": 1, "c": 2}
+        entries = [("c", "c", 1), ("m", "a", 1), ("m", "b", 1), ("x", "c", 1)]
+        for way, right in (([("a", "m"), ("b", "x")], True), ([("a", "m"), ("a", "x")], False), ([("a", "m"), ("b", "c"), ("c", "x")], False)):
+            self.judged(line, stock, "a", (entries, way))
+            self.assertIs(check_way(line, stock, "a", (entries, way)), right)
+
     def test_small_bends(self):
         entries, way = gain_way(THREE, FEW, "o")
         for value in ((entries, []), (entries, tuple(way)), [entries, way], (entries, way, []), (tuple(entries), way),
