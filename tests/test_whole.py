@@ -4,7 +4,7 @@ import itertools
 import unittest
 
 from elderlink import claims, costs, days, deals, early, gains, orders, papers, scripts, shares, texts, worth
-from elderlink.house import Asker, Line, added, folded, recalled, renamed, taken, total, wanted
+from elderlink.house import Asker, added, folded, recalled, renamed, taken, total, wanted
 from elderlink.live import House, replayed
 from tests.ways import drawn_lines, drawn_stocks
 
